@@ -1,0 +1,57 @@
+"""Tests of the form of the package: its files, its sizes and what it imports."""
+
+import ast
+import pathlib
+import unittest
+
+PACKAGE = pathlib.Path(__file__).resolve().parent.parent / "wholepackets"
+INTERFACE = {
+    "errors": ["BuildError", "ChangeError", "CommandError", "RuleError", "SwitchError", "TextError"],
+    "tokens": ["is_reserved", "tokenize"],
+    "parsing": ["parse_program"],
+    "writing": ["write_program"],
+}
+
+
+def sources():
+    """Return the pairs of the name and the text of each file of the package."""
+    return [(path.stem, path.read_text(encoding="utf-8")) for path in sorted(PACKAGE.glob("*.py"))]
+
+
+class PackageTest(unittest.TestCase):
+    def test_only_files_of_python(self):
+        others = [path.name for path in PACKAGE.iterdir() if path.suffix != ".py"]
+        self.assertEqual([name for name in others if name != "__pycache__"], [])
+        self.assertTrue((PACKAGE / "__init__.py").is_file())
+
+    def test_characters_and_sizes(self):
+        for name, text in sources():
+            lines = text.split("\n")
+            self.assertLess(len(lines), 400, msg=name)
+            self.assertLessEqual(max(len(line) for line in lines), 120, msg=name)
+            self.assertEqual([char for char in text if char != "\n" and not " " <= char <= "~"], [], msg=name)
+
+    def test_length_of_functions(self):
+        for name, text in sources():
+            for node in ast.walk(ast.parse(text)):
+                if isinstance(node, ast.FunctionDef):
+                    self.assertLessEqual(node.end_lineno - node.lineno + 1, 40, msg=f"{name}.{node.name}")
+
+    def test_imports(self):
+        for name, text in sources():
+            for node in ast.walk(ast.parse(text)):
+                self.assertNotIsInstance(node, ast.Import, msg=name)
+                if isinstance(node, ast.ImportFrom):
+                    self.assertEqual(node.level, 0, msg=name)
+                    self.assertEqual(node.module.split(".")[0], "wholepackets", msg=name)
+
+    def test_interface_is_defined_where_it_is_listed(self):
+        texts = dict(sources())
+        for name, listed in INTERFACE.items():
+            body = ast.parse(texts[name]).body
+            defined = [node.name for node in body if isinstance(node, (ast.FunctionDef, ast.ClassDef))]
+            self.assertEqual([word for word in listed if word not in defined], [], msg=name)
+
+
+if __name__ == "__main__":
+    unittest.main()

@@ -1,0 +1,1 @@
+"""Wholepackets: a packet switch whose programs are data."""
