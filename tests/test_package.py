@@ -10,6 +10,14 @@ INTERFACE = {
     "tokens": ["is_reserved", "tokenize"],
     "parsing": ["parse_program"],
     "writing": ["write_program"],
+    "rules": ["check", "width_of"],
+    "entries": ["call_of", "choose", "is_entry", "matches"],
+    "meaning": ["choices", "process"],
+    "layout": ["cell_of", "header_cells", "valid_cell", "widths"],
+    "walking": ["compile_parser", "walk"],
+    "nodes": ["compile_control", "stages"],
+    "actions": ["compile_action", "execute"],
+    "images": ["build", "choice", "enter_unit", "pass_unit", "run_image"],
 }
 
 
