@@ -18,6 +18,42 @@ INTERFACE = {
     "nodes": ["compile_control", "stages"],
     "actions": ["compile_action", "execute"],
     "images": ["build", "choice", "enter_unit", "pass_unit", "run_image"],
+    "pipes": ["Pipe"],
+    "ledger": ["Ledger"],
+    "journal": ["Journal"],
+    "controller": ["Controller"],
+    "queues": ["Queue"],
+    "switch": ["Switch"],
+    "judging": ["judge"],
+    "script": ["run_script"],
+}
+# By file and class: the arguments of each method behind the object itself.
+METHODS = {
+    ("pipes", "Pipe"): {
+        "__init__": ["image", "version"],
+        "write": ["unit", "contents", "version"],
+        "turn": ["version"],
+        "carries": [],
+        "advance": ["label", "packet", "port"],
+        "labels": [],
+        "counts": [],
+    },
+    ("ledger", "Ledger"): {"__init__": [], "collect": ["version", "counts"], "total": ["others"]},
+    ("journal", "Journal"): {
+        "__init__": ["text"],
+        "submit": ["change"],
+        "latest": [],
+        "configuration": ["version"],
+    },
+    ("controller", "Controller"): {"__init__": ["journal", "ledger", "pipes"], "step": [], "restart": []},
+    ("queues", "Queue"): {"__init__": ["capacity", "gap"], "put": ["item"], "take": ["tick"], "waiting": []},
+    ("switch", "Switch"): {
+        "__init__": ["text", "pipes", "intake", "capacity", "gap"],
+        "advance": ["events"],
+        "run": ["schedule"],
+        "hits": [],
+        "inside": [],
+    },
 }
 
 
@@ -59,6 +95,16 @@ class PackageTest(unittest.TestCase):
             body = ast.parse(texts[name]).body
             defined = [node.name for node in body if isinstance(node, (ast.FunctionDef, ast.ClassDef))]
             self.assertEqual([word for word in listed if word not in defined], [], msg=name)
+
+    def test_methods_are_defined_in_their_classes(self):
+        texts = dict(sources())
+        for (name, class_name), listed in METHODS.items():
+            body = ast.parse(texts[name]).body
+            found = [node for node in body if isinstance(node, ast.ClassDef) and node.name == class_name]
+            methods = {node.name: node.args for node in found[0].body if isinstance(node, ast.FunctionDef)}
+            for method, words in listed.items():
+                args = [*methods[method].args, *methods[method].kwonlyargs]
+                self.assertEqual([arg.arg for arg in args[1:]], words, msg=f"{class_name}.{method}")
 
 
 if __name__ == "__main__":

@@ -89,10 +89,15 @@ def is_number(part):
     if part.startswith("0x"):
         digits = part[2:]
         return 1 <= len(digits) <= MOST_HEX_DIGITS and consists_of(digits, HEX_DIGITS)
-    if part[0] == "0":
+    return is_decimal(part)
+
+
+def is_decimal(part):
+    """Tell if a part is a number in decimal digits that is not too great."""
+    if part.startswith("0"):
         return part == "0"
     # The length goes first: Python refuses to convert thousands of digits.
-    if len(part) > MOST_DIGITS or not consists_of(part, DIGITS):
+    if not 1 <= len(part) <= MOST_DIGITS or not consists_of(part, DIGITS):
         return False
     return int(part) <= GREATEST_NUMBER
 
